@@ -1,0 +1,141 @@
+"""What the tests share: all tables, told by the plain words of the document, and wrong things.
+
+Nothing here uses the program, so that the tests hold it against something else.
+"""
+
+from itertools import product
+
+CROSS = ((0, 1, 0), (1, -1, 1), (0, 1, 0))
+SIDES = (1, 2, 3, 4, 5, 6)
+
+
+def takes_turns(line):
+    """What isn't 0 is by turns 1 and -1, the first and the last being 1."""
+    signs = [number for number in line if number != 0]
+    if len(signs) % 2 == 0:
+        return False
+    return signs == [1 if at % 2 == 0 else -1 for at in range(len(signs))]
+
+
+def build_tables(side):
+    """All tables of a side, row behind row; a column may not hold 1 behind 1 or -1 behind -1."""
+    rows = [row for row in product((-1, 0, 1), repeat=side) if takes_turns(row)]
+    begun = [()]
+    for _ in range(side):
+        begun = [start + (row,) for start in begun for row in rows if fits(start, row)]
+    return [table for table in begun if all(takes_turns(column) for column in zip(*table))]
+
+
+def fits(start, row):
+    for at, number in enumerate(row):
+        sum_above = sum(above[at] for above in start)
+        if sum_above + number not in (0, 1):
+            return False
+    return True
+
+
+TABLES = {side: build_tables(side) for side in SIDES}
+ALL_TABLES = [table for side in SIDES for table in TABLES[side]]
+
+
+def few_tables(side):
+    """Some tables of a side: the outermost ones and such with -1."""
+    tables = TABLES[side]
+    with_minus = [table for table in tables if any(-1 in row for row in table)]
+    most_minus = sorted(with_minus, key=lambda table: sum(row.count(-1) for row in table))
+    return list(dict.fromkeys([tables[0], tables[-1]] + with_minus[:1] + most_minus[-1:]))
+
+
+SOME_TABLES = [table for side in SIDES for table in few_tables(side)]
+
+
+def unit_table(side):
+    return tuple(tuple(1 if i == j else 0 for j in range(side)) for i in range(side))
+
+
+def plain_heights(table):
+    many = len(table) + 1
+    return tuple(
+        tuple(sum(table[r][c] for r in range(i) for c in range(j)) for j in range(many)) for i in range(many)
+    )
+
+
+def plain_net(table):
+    side = len(table)
+    across = tuple(tuple(sum(table[i][c] for c in range(j)) for j in range(side + 1)) for i in range(side))
+    down = tuple(tuple(sum(table[r][j] for r in range(i)) for j in range(side)) for i in range(side + 1))
+    return (across, down)
+
+
+def plain_kind(table, row, column):
+    left = sum(table[row][:column])
+    right = sum(table[row][: column + 1])
+    above = sum(line[column] for line in table[:row])
+    below = sum(line[column] for line in table[: row + 1])
+    return (left, right, above, below)
+
+
+# By their written form, for 1 == True, but "1" isn't "True".
+TABLE_FORMS = {repr(table) for table in ALL_TABLES}
+HEIGHTS_FORMS = {repr(plain_heights(table)) for table in ALL_TABLES}
+NET_FORMS = {repr(plain_net(table)) for table in ALL_TABLES}
+
+ATOMS = (None, True, False, 0, 1, -1, 2, 7, 10**30 - 1, 1 - 10**30, "", "0", "1", "+", "0+0/+-+/0+0")
+
+
+def wrapped(thing):
+    """Things that hold this one, one deeper."""
+    told = [[thing], (thing,), {"a": thing}, {1: thing, 2: thing}, [thing, 1], (0, thing), (thing, thing)]
+    if not isinstance(thing, (list, dict)):
+        told.append([thing, thing, thing])
+    return told
+
+
+def build_strange():
+    """Things of other kinds, from one to six deep; no table, heights or net among them."""
+    told = [[], (), {}, ((),), [[]], ((), ()), [(1,)], ([1],), (((1,),),), {(1,): (1,)}] + list(ATOMS)
+    for atom in ATOMS:
+        deeper = [atom]
+        for depth in range(5):
+            # A step that shares nothing with how many wrappings there are takes each of them.
+            deeper = [other for thing in deeper for other in wrapped(thing)][depth % 3 :: 3][:30]
+            told.extend(deeper)
+    right = TABLE_FORMS | HEIGHTS_FORMS | NET_FORMS
+    return [thing for thing in told if repr(thing) not in right]
+
+
+STRANGE = build_strange()
+
+
+def otherwise_number(number):
+    return [number + 1, number - 1, number + 2, -number, number == 1, number != 1, str(number), 10**29]
+
+
+def otherwise(thing):
+    """Things like this one, of tuples and numbers, with one thing in it otherwise."""
+    for other in (None, True, False, "", "1", [], (), {}, [1], (1,), 0, 1, -1):
+        yield other
+    if not isinstance(thing, tuple):
+        yield from otherwise_number(thing)
+        return
+    yield list(thing)
+    yield dict(enumerate(thing))
+    yield str(thing)
+    yield (thing,)
+    for at in range(len(thing)):
+        head, part, tail = thing[:at], thing[at], thing[at + 1 :]
+        yield head + tail
+        yield head + (part, part) + tail
+        for later in range(at + 1, len(thing)):
+            yield head + (thing[later],) + thing[at + 1 : later] + (part,) + thing[later + 1 :]
+        for other in otherwise(part):
+            yield head + (other,) + tail
+
+
+def refusal(deed, *things):
+    """The error that a deed tells of these things, or None."""
+    try:
+        deed(*things)
+    except Exception as error:
+        return error
+    return None

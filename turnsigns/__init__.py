@@ -1,0 +1,1 @@
+"""Turnsigns: tables of signs that take turns."""
