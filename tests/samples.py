@@ -3,7 +3,8 @@
 Nothing here uses the program, so that the tests hold it against something else.
 """
 
-from itertools import product
+from itertools import combinations, product
+from random import Random
 
 CROSS = ((0, 1, 0), (1, -1, 1), (0, 1, 0))
 SIDES = (1, 2, 3, 4, 5, 6)
@@ -139,3 +140,122 @@ def refusal(deed, *things):
     except Exception as error:
         return error
     return None
+
+
+def is_number_to(thing, greatest):
+    """Whether it is a whole number from 1 to greatest, by its very class."""
+    return type(thing) is int and 1 <= thing <= greatest
+
+
+def plain_is_row(thing, width):
+    """Whether it is a rising tuple of so many whole numbers from 1 to 8."""
+    if type(thing) is not tuple or len(thing) != width or not all(is_number_to(number, 8) for number in thing):
+        return False
+    return list(thing) == sorted(set(thing))
+
+
+def plain_is_last_row(thing):
+    return type(thing) is tuple and 1 <= len(thing) <= 6 and plain_is_row(thing, len(thing))
+
+
+def plain_is_triangle(thing):
+    if type(thing) is not tuple or not 1 <= len(thing) <= 6:
+        return False
+    for many, row in enumerate(thing, 1):
+        if not plain_is_row(row, many):
+            return False
+    return all(stands_over(upper, lower) for upper, lower in zip(thing, thing[1:]))
+
+
+def stands_over(upper, lower):
+    for at in range(len(upper)):
+        if upper[at] < lower[at] or upper[at] > lower[at + 1]:
+            return False
+    return True
+
+
+def plain_triangle(table):
+    told = []
+    for many in range(1, len(table) + 1):
+        sums = [sum(column[:many]) for column in zip(*table)]
+        told.append(tuple(at for at, total in enumerate(sums, 1) if total == 1))
+    return tuple(told)
+
+
+LAST_ROWS = [row for many in range(1, 7) for row in combinations(range(1, 9), many)]
+ROWS_OVER = {
+    row: [upper for upper in combinations(range(row[0], row[-1] + 1), len(row) - 1) if stands_over(upper, row)]
+    for row in LAST_ROWS
+    if len(row) > 1
+}
+
+
+def plain_triangles(row):
+    """Each triangle with a last row, one by one."""
+    if len(row) == 1:
+        yield (row,)
+        return
+    for upper in ROWS_OVER[row]:
+        for head in plain_triangles(upper):
+            yield head + (row,)
+
+
+TURNS = ("stay", "left", "half", "right", "upright", "flat", "slant", "other")
+
+
+def plain_turned(table, turn):
+    """The table turned, square by square."""
+    last = len(table) - 1
+    squares = {
+        "stay": lambda i, j: table[i][j],
+        "left": lambda i, j: table[j][last - i],
+        "half": lambda i, j: table[last - i][last - j],
+        "right": lambda i, j: table[last - j][i],
+        "upright": lambda i, j: table[i][last - j],
+        "flat": lambda i, j: table[last - i][j],
+        "slant": lambda i, j: table[j][i],
+        "other": lambda i, j: table[last - j][last - i],
+    }
+    square = squares[turn]
+    return tuple(tuple(square(i, j) for j in range(last + 1)) for i in range(last + 1))
+
+
+HEIGHTS = {table: plain_heights(table) for table in ALL_TABLES}
+BY_HEIGHTS = {heights: table for table, heights in HEIGHTS.items()}
+
+
+def plain_is_below(one, other):
+    return all(a >= b for row, line in zip(HEIGHTS[one], HEIGHTS[other]) for a, b in zip(row, line))
+
+
+def plain_steps(table):
+    """The places at which the height can be less by 1, each with the table behind that step."""
+    heights = HEIGHTS[table]
+    told = {}
+    for row, column in product(range(1, len(table)), repeat=2):
+        lower = [list(line) for line in heights]
+        lower[row][column] -= 1
+        behind = BY_HEIGHTS.get(tuple(tuple(line) for line in lower))
+        if behind is not None:
+            told[(row, column)] = behind
+    return told
+
+
+def drawn_tables(side, many):
+    """Some tables of a side, drawn the same each time."""
+    return Random(side).sample(TABLES[side], min(many, len(TABLES[side])))
+
+
+def not_tables():
+    """Things of other kinds, and tables with one thing otherwise."""
+    things = STRANGE + list(otherwise(CROSS)) + list(otherwise(((1,),))) + [unit_table(7), plain_net(CROSS)]
+    return [thing for thing in things if repr(thing) not in TABLE_FORMS]
+
+
+NOT_TABLES = not_tables()
+
+
+def not_numbers(least, greatest):
+    """Things that are no whole number from least to greatest: one beyond each bound, and other kinds."""
+    things = STRANGE + [least - 1, greatest + 1, -least, -greatest - 1, str(least), (least,), [greatest], 10**29]
+    return [thing for thing in things if type(thing) is not int or not least <= thing <= greatest]

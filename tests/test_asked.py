@@ -4,11 +4,33 @@ import copy
 import unittest
 
 import samples
+from turnsigns.counts import all_tables, many_first, many_tables, number_of, table_at
 from turnsigns.nets import is_net, kind_at, kinds_of, net_of, table_of_net
+from turnsigns.orders import both_above, both_below, is_below, stepped, steps_from_lowest, steps_of
 from turnsigns.tables import heights_of, is_heights, is_table, table_by
+from turnsigns.triangles import all_triangles, is_triangle, many_triangles, table_of_triangle, triangle_of
+from turnsigns.turned import least_turned, left_so, own_turns, turned
 
-OF_ANYTHING = (is_table, is_heights, is_net)
-REFUSING = (heights_of, table_by, net_of, table_of_net, kinds_of, lambda thing: kind_at(thing, 0, 0))
+OF_ANYTHING = (is_table, is_heights, is_net, is_triangle)
+REFUSING = (
+    (heights_of, table_by, net_of, table_of_net, kinds_of, triangle_of, table_of_triangle, many_triangles)
+    + (all_triangles, many_tables, all_tables, number_of, own_turns, least_turned, steps_of, steps_from_lowest)
+    + (lambda thing: kind_at(thing, 0, 0), lambda thing: turned(thing, "left"), lambda thing: stepped(thing, (1, 1)))
+)
+OF_TWO = (
+    (many_first, 3, 2),
+    (table_at, 4, 7),
+    (turned, samples.CROSS, "left"),
+    (left_so, 4, "half"),
+    (is_below, samples.CROSS, samples.unit_table(3)),
+    (both_below, samples.CROSS, samples.unit_table(3)),
+    (both_above, samples.CROSS, samples.unit_table(3)),
+    (stepped, samples.CROSS, (2, 1)),
+)
+TELLING_LISTS = [(all_triangles, (1, 3, 6, 8)), (all_triangles, (5,)), (all_tables, 1), (all_tables, 4)]
+TELLING_LISTS += [(own_turns, table) for table in samples.SOME_TABLES]
+TELLING_LISTS += [(left_so, side, turn) for side in (1, 2, 3, 4) for turn in samples.TURNS]
+TELLING_LISTS += [(steps_of, table) for table in samples.SOME_TABLES]
 
 
 def told(deed, *things):
@@ -24,16 +46,42 @@ class Asked(unittest.TestCase):
             for deed in OF_ANYTHING + REFUSING:
                 samples.refusal(deed, thing)
             samples.refusal(kind_at, samples.CROSS, thing, thing)
+            for deed, one, other in OF_TWO:
+                samples.refusal(deed, thing, other)
+                samples.refusal(deed, one, thing)
             self.assertEqual(repr(thing), repr(kept))
 
     def test_asked_again_the_same_is_told(self):
         good = []
         for table in samples.SOME_TABLES:
-            good.extend([table, samples.plain_heights(table), samples.plain_net(table)])
+            good.extend([table, samples.plain_heights(table), samples.plain_net(table), samples.plain_triangle(table)])
+        good.extend([1, 4, 6, 40, (1, 3, 6, 8), (8,), (1, 2, 4, 5, 7, 8)])
         for deed in OF_ANYTHING + REFUSING:
             first = [told(deed, thing) for thing in good + samples.STRANGE]
             again = [told(deed, thing) for thing in good + samples.STRANGE]
             self.assertEqual(first, again)
+
+    def test_asked_again_of_two_the_same_is_told(self):
+        for deed, one, other in OF_TWO:
+            wanted = told(deed, one, other)
+            self.assertIs(type(wanted), str)
+            for thing in samples.STRANGE:
+                self.assertEqual(told(deed, one, thing), told(deed, one, thing))
+                self.assertEqual(told(deed, thing, other), told(deed, thing, other))
+            self.assertEqual(told(deed, one, other), wanted)
+
+    def test_a_list_that_was_told_is_the_askers_own(self):
+        for deed, *things in TELLING_LISTS:
+            first = deed(*things)
+            wanted = list(first)
+            self.assertIs(type(first), list)
+            first.append("more")
+            first.reverse()
+            second = deed(*things)
+            self.assertIsNot(first, second)
+            self.assertEqual(second, wanted)
+            second.clear()
+            self.assertEqual(deed(*things), wanted)
 
     def test_what_is_handed_in_may_be_changed_later(self):
         row = [1]
@@ -62,11 +110,19 @@ class Asked(unittest.TestCase):
     def test_what_was_told_may_be_handed_in_again(self):
         for table in samples.SOME_TABLES:
             self.assertEqual(table_of_net(net_of(table_by(heights_of(table)))), table)
+            self.assertEqual(table_of_triangle(triangle_of(table)), table)
+            self.assertEqual(table_at(len(table), number_of(table)), table)
+            self.assertEqual(turned(turned(table, own_turns(table)[-1]), "left"), turned(table, "left"))
+            for place in steps_of(table):
+                self.assertIs(is_below(table, stepped(table, place)), True)
 
     def test_arguments_are_handed_in_by_their_places(self):
         self.assertEqual(kind_at(((0, 1), (1, 0)), 0, 1), (0, 1, 0, 1))
         self.assertEqual(kind_at(((1, 0), (0, 1)), 0, 1), (1, 1, 0, 0))
         self.assertEqual(kind_at(((1, 0), (0, 1)), 1, 0), (0, 0, 1, 1))
+        self.assertEqual(many_first(3, 2), 3)
+        self.assertEqual(table_at(2, 1), ((1, 0), (0, 1)))
+        self.assertIs(is_below(((1, 0), (0, 1)), ((0, 1), (1, 0))), True)
 
     def test_a_truth_is_no_whole_number(self):
         table = ((1, 0), (0, 1))
@@ -75,6 +131,14 @@ class Asked(unittest.TestCase):
         self.assertIs(is_net((((0, True),), ((0,), (1,)))), False)
         for row, column in ((True, 0), (0, True), (False, 0), (0, False)):
             self.assertIsNotNone(samples.refusal(kind_at, table, row, column))
+        self.assertIs(is_triangle(((True,),)), False)
+        for deed in (many_tables, all_tables, lambda side: many_first(side, 1), lambda side: table_at(side, 0)):
+            self.assertIsNotNone(samples.refusal(deed, True))
+        calls = [(many_triangles, (True,)), (all_triangles, (True,)), (table_of_triangle, ((True,),))]
+        calls += [(many_first, 1, True), (table_at, 1, False), (left_so, True, "stay"), (turned, ((True,),), "stay")]
+        calls += [(stepped, table, (True, 1)), (stepped, table, (1, True)), (is_below, ((1,),), ((True,),))]
+        for deed, *things in calls:
+            self.assertIsNotNone(samples.refusal(deed, *things), things)
 
 
 if __name__ == "__main__":

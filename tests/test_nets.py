@@ -15,11 +15,6 @@ KINDS_OF_0 = {(0, 0, 0, 0), (1, 1, 1, 1), (0, 0, 1, 1), (1, 1, 0, 0)}
 NO_PLACES = [None, True, False, "", "0", [0], (0,), {0: 0}, -1, 10**30 - 1, 1 - 10**30]
 
 
-def not_tables():
-    things = samples.STRANGE + list(samples.otherwise(samples.CROSS)) + [samples.unit_table(7), CROSS_NET]
-    return [thing for thing in things if repr(thing) not in samples.TABLE_FORMS]
-
-
 class NetOf(unittest.TestCase):
     def test_written_ones(self):
         self.assertEqual(net_of(((1,),)), ONE_NET)
@@ -30,7 +25,7 @@ class NetOf(unittest.TestCase):
             self.assertEqual(repr(net_of(table)), repr(samples.plain_net(table)))
 
     def test_what_is_no_table_is_refused(self):
-        for thing in not_tables():
+        for thing in samples.NOT_TABLES:
             self.assertIs(type(samples.refusal(net_of, thing)), NoTable, thing)
 
 
@@ -140,7 +135,7 @@ class KindAt(unittest.TestCase):
             self.assertIn("column", str(samples.refusal(kind_at, samples.CROSS, 2, wrong)))
 
     def test_the_table_is_looked_at_ahead_of_the_place(self):
-        for thing in not_tables():
+        for thing in samples.NOT_TABLES:
             for row, column in ((0, 0), (9, 0), (0, "x"), (None, None)):
                 self.assertIs(type(samples.refusal(kind_at, thing, row, column)), NoTable, thing)
 
@@ -164,7 +159,7 @@ class KindsOf(unittest.TestCase):
             self.assertEqual(sorted(map(repr, told.items())), sorted(map(repr, wanted.items())))
 
     def test_what_is_no_table_is_refused(self):
-        for thing in not_tables():
+        for thing in samples.NOT_TABLES:
             self.assertIs(type(samples.refusal(kinds_of, thing)), NoTable, thing)
 
 

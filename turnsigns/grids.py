@@ -6,6 +6,11 @@ def is_whole(thing):
     return isinstance(thing, int) and not isinstance(thing, bool)
 
 
+def is_within(thing, least, greatest):
+    """Tell of anything whether it is a whole number from least to greatest."""
+    return is_whole(thing) and least <= thing <= greatest
+
+
 def is_row(thing, width):
     """Tell whether it is a tuple of so many whole numbers."""
     if not isinstance(thing, tuple) or len(thing) != width:

@@ -1,7 +1,7 @@
 """Nets of arrows about the squares of a table, and the kinds of squares."""
 
 from turnsigns.errors import NoNet, NoPlace
-from turnsigns.grids import is_grid, is_whole, rises_across, sums_across, sums_down
+from turnsigns.grids import is_grid, is_within, rises_across, sums_across, sums_down
 from turnsigns.tables import GREATEST_SIDE, is_table, must_be_table
 
 
@@ -45,7 +45,7 @@ def table_of_net(net):
 
 def is_place(thing, side):
     """Tell of anything whether it numbers a row, or a column, of a table of that side."""
-    return is_whole(thing) and 0 <= thing < side
+    return is_within(thing, 0, side - 1)
 
 
 def kind_in(net, row, column):
