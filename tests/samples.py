@@ -259,3 +259,57 @@ def not_numbers(least, greatest):
     """Things that are no whole number from least to greatest: one beyond each bound, and other kinds."""
     things = STRANGE + [least - 1, greatest + 1, -least, -greatest - 1, str(least), (least,), [greatest], 10**29]
     return [thing for thing in things if type(thing) is not int or not least <= thing <= greatest]
+
+
+def plain_minus(table):
+    return sum(number == -1 for row in table for number in row)
+
+
+def plain_pairs(table):
+    """Over all two rows and two columns: the lower left number times the upper right one."""
+    told = 0
+    for upper, lower in combinations(table, 2):
+        for left, right in combinations(range(len(table)), 2):
+            told += lower[left] * upper[right]
+    return told
+
+
+def plain_text(table):
+    return "/".join("".join("-0+"[number + 1] for number in row) for row in table)
+
+
+TEXTS = {plain_text(table): table for table in ALL_TABLES}
+
+
+def plain_numbers():
+    """Each table with how many of its side are less."""
+    return {table: number for side in SIDES for number, table in enumerate(sorted(TABLES[side]))}
+
+
+def plain_steps_up(table):
+    """How many steps there are at least from the lowest table of its side."""
+    lowest = HEIGHTS[unit_table(len(table))]
+    return sum(map(sum, lowest)) - sum(map(sum, HEIGHTS[table]))
+
+
+def plain_both_below(one, other):
+    heights = zip(HEIGHTS[one], HEIGHTS[other])
+    return BY_HEIGHTS[tuple(tuple(map(max, row, line)) for row, line in heights)]
+
+
+def plain_both_above(one, other):
+    heights = zip(HEIGHTS[one], HEIGHTS[other])
+    return BY_HEIGHTS[tuple(tuple(map(min, row, line)) for row, line in heights)]
+
+
+def otherwise_text(text):
+    """Texts like this one, with one sign more, less or other, or with two exchanged."""
+    signs = "+-0/1 a\\|~,.\n\t"
+    for at in range(len(text) + 1):
+        head, tail = text[:at], text[at:]
+        yield from (head + sign + tail for sign in signs)
+        if tail:
+            yield head + tail[1:]
+            yield from (head + sign + tail[1:] for sign in signs)
+        if len(tail) > 1:
+            yield head + tail[1] + tail[0] + tail[2:]

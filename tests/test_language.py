@@ -35,6 +35,12 @@ NAMES_OUT = set(
     "methodcaller os quit setattr super sys vars format format_map chr print".split()
 )
 
+OWN_METHODS = set(
+    "append clear copy count endswith extend find get index insert isalnum isalpha isdigit islower isspace isupper items "
+    "join keys ljust lower lstrip partition pop remove replace reverse rfind rjust rpartition rsplit rstrip setdefault "
+    "split splitlines startswith strip update upper values zfill bit_length".split()
+)
+
 
 def bound_names(tree):
     """Each name that is given, with its row, and of parameters and defs too."""
@@ -85,7 +91,7 @@ def faults_of_names(tree):
     for name, row in bound_names(tree):
         if name.startswith("_") and name not in METHODS:
             yield f"L12 row {row}: {name}"
-        if hasattr(builtins, name):
+        if hasattr(builtins, name) and name not in METHODS:
             yield f"L15 row {row}: {name}"
     for node in ast.walk(tree):
         if isinstance(node, ast.Name) and hasattr(builtins, node.id) and node.id not in OWN_NAMES:
@@ -93,6 +99,11 @@ def faults_of_names(tree):
         name = getattr(node, "id", getattr(node, "attr", getattr(node, "arg", getattr(node, "name", None))))
         if name in NAMES_OUT:
             yield f"L17 {name}"
+
+
+def is_single(node):
+    """Whether it is a written None, True or False; 1 == True, but 1 is none of them."""
+    return isinstance(node, ast.Constant) and (node.value is None or isinstance(node.value, bool))
 
 
 def faults_of_node(node):
@@ -114,14 +125,74 @@ def faults_of_node(node):
         yield f"L7 row {node.lineno}"
     if isinstance(node, (ast.For, ast.While)) and node.orelse:
         yield f"L6 row {node.lineno}"
+    if isinstance(node, ast.Compare) and any(isinstance(sign, (ast.Is, ast.IsNot)) for sign in node.ops):
+        if not all(is_single(side) for side in node.comparators):
+            yield f"L20 row {node.lineno}"
+    if isinstance(node, ast.Raise) and node.exc is not None:
+        if not isinstance(node.exc, ast.Call) or not isinstance(node.exc.func, ast.Name):
+            yield f"L19 row {node.lineno}"
+
+
+def faults_of_attributes(tree):
+    """What is asked of a thing: a method of Python's own, or what a class of the file gives."""
+    classes = [node for node in tree.body if isinstance(node, ast.ClassDef)]
+    methods = {part.name for node in classes for part in node.body if isinstance(part, ast.FunctionDef)}
+    attributes = [node for node in ast.walk(tree) if isinstance(node, ast.Attribute)]
+    values = {node.attr for node in attributes if isinstance(node.ctx, ast.Store)}
+    called = {id(node.func) for node in ast.walk(tree) if isinstance(node, ast.Call)}
+    if methods & values:
+        yield f"L18 {methods & values}"
+    for node in attributes:
+        if id(node) in called and node.attr not in OWN_METHODS | methods:
+            yield f"L25 row {node.lineno}: {node.attr}"
+        if id(node) not in called and node.attr not in values:
+            yield f"L18 row {node.lineno}: {node.attr}"
+
+
+def drawn_of(tree):
+    """Each name that a file draws, with the module it is drawn from."""
+    rows = [node for node in tree.body if isinstance(node, ast.ImportFrom)]
+    return [(row.module.rpartition(".")[2], alias.name) for row in rows for alias in row.names]
+
+
+def own_names(tree):
+    """The names that a file defines itself at its top."""
+    told = {node.name for node in tree.body if isinstance(node, (ast.FunctionDef, ast.ClassDef))}
+    return told | {target.id for node in tree.body if isinstance(node, ast.Assign) for target in node.targets}
+
+
+def faults_of_imports(trees):
+    """Names that are drawn from a file that doesn't define them, and files that draw from one another."""
+    for name, tree in trees.items():
+        for module, drawn in drawn_of(tree):
+            if module not in trees or drawn not in own_names(trees[module]):
+                yield f"L16 {name}: {drawn}"
+    ahead = {name: {module for module, drawn in drawn_of(tree)} for name, tree in trees.items()}
+    while ahead:
+        free = [name for name in ahead if not ahead[name] & set(ahead)]
+        if not free:
+            yield f"L16 a circle among {sorted(ahead)}"
+            return
+        ahead = {name: modules for name, modules in ahead.items() if name not in free}
 
 
 def faults_of(text):
     """All that is seen to break a rule in a file's text."""
     tree = ast.parse(text)
     told = list(faults_of_text(text)) + list(faults_of_top(tree)) + list(faults_of_names(tree))
+    told += list(faults_of_attributes(tree))
     for node in ast.walk(tree):
         told.extend(faults_of_node(node))
+    return told
+
+
+def package_texts():
+    """The text of each file of the package, by its name without the ending."""
+    told = {}
+    for name in sorted(os.listdir(PACKAGE)):
+        if name.endswith(".py"):
+            with open(os.path.join(PACKAGE, name), encoding="utf-8") as file:
+                told[name[:-3]] = file.read()
     return told
 
 
@@ -133,10 +204,18 @@ class Language(unittest.TestCase):
             self.assertRegex(name, r"^(__init__|[a-z][a-z0-9_]*)\.py$")
 
     def test_each_file_keeps_to_the_rules(self):
-        for name in sorted(os.listdir(PACKAGE)):
-            if name.endswith(".py"):
-                with open(os.path.join(PACKAGE, name), encoding="utf-8") as file:
-                    self.assertEqual(faults_of(file.read()), [], name)
+        for name, text in package_texts().items():
+            self.assertEqual(faults_of(text), [], name)
+
+    def test_names_are_drawn_from_where_they_stand_and_no_files_from_one_another(self):
+        trees = {name: ast.parse(text) for name, text in package_texts().items()}
+        self.assertEqual(list(faults_of_imports(trees)), [])
+        circle = {"a": ast.parse("from p.b import f\ng = 1\n"), "b": ast.parse("from p.a import g\nf = 1\n")}
+        self.assertNotEqual(list(faults_of_imports(circle)), [])
+        elsewhere = {"a": ast.parse("f = 1\n"), "b": ast.parse("from p.a import f\n")}
+        self.assertEqual(list(faults_of_imports(elsewhere)), [])
+        elsewhere["c"] = ast.parse("from p.b import f\n")
+        self.assertNotEqual(list(faults_of_imports(elsewhere)), [])
 
     def test_the_look_finds_what_is_out(self):
         wrong = (
@@ -155,6 +234,12 @@ class Language(unittest.TestCase):
             "NAME = 1\nNAME = 2\n",
             "from turnsigns.tables import is_table\n\n\ndef f(is_table):\n    return is_table\n",
             "def f(x):\n" + "    x += 1\n" * 40,
+            "def f(x, y):\n    return x is y\n",
+            "def f(x):\n    return x is 1\n",
+            "def f(x):\n    raise x\n",
+            "def f(x):\n    return x.union(x)\n",
+            "def f(x):\n    return x.many\n",
+            "class A:\n    def say(self):\n        self.say = 1\n",
         )
         for text in wrong:
             self.assertNotEqual(faults_of(text), [], text)

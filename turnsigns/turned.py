@@ -58,10 +58,15 @@ TURNS = {
 }
 
 
+def is_turn(thing):
+    """Tell of anything whether it is a word for a turn."""
+    # What can't be a key can't be asked of the dict, so texts alone are.
+    return isinstance(thing, str) and thing in TURNS
+
+
 def must_be_turn(thing):
     """Refuse what is no word for a turn."""
-    # What can't be a key can't be asked of the dict, so texts alone are.
-    if not isinstance(thing, str) or thing not in TURNS:
+    if not is_turn(thing):
         raise NoTurn("this is no turn")
 
 
